@@ -1,0 +1,1 @@
+"""Losing games that win when they are played by turns."""

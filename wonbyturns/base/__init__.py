@@ -1,0 +1,1 @@
+"""What the rest of the package stands on: words, fractions and houses."""
