@@ -61,3 +61,19 @@ NEAR_FRACTIONS = (
 )
 
 NOT_FRACTIONS = OTHERS + NEAR_FRACTIONS + (0, 1, -3, Ratio(1, 2))
+
+# Values that are no integers from 0 to 1, of every kind; they are no standings of two and no indices.
+NOT_STANDINGS = NOT_INTEGERS + (-1, 2, 8, LONGEST, -LONGEST)
+
+# Values that are no names of a game; some of them look like one.
+NOT_NAMES = OTHERS + (0, 1, "x", "C", "c ", " c", "cc", "c\n", ("c",), ["c"], {"c": 1}, Ratio(1))
+
+
+def refused(case, error, call, *arguments, **kept):
+    """A call raises just this error, which keeps these values."""
+    with case.assertRaises(error) as caught:
+        call(*arguments)
+    case.assertIs(caught.exception.__class__, error)
+    for name, value in kept.items():
+        found = getattr(caught.exception, name)
+        case.assertTrue(found is value or (found.__class__ is int and found == value), name)

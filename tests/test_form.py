@@ -73,6 +73,43 @@ class Form(unittest.TestCase):
                     self.assertTrue(node.module in library or node.module.startswith("wonbyturns."))
                     self.assertNotIn("*", [one.name for one in node.names])
 
+    def test_names_of_imports_and_classes_keep_their_meaning(self):
+        for path, tree in self.each_tree():
+            own = {one.name for node in tree.body if isinstance(node, ast.ImportFrom) for one in node.names}
+            own |= {node.name for node in tree.body if isinstance(node, ast.ClassDef)}
+            for node in ast.walk(tree):
+                if isinstance(node, ast.Name) and isinstance(node.ctx, ast.Store):
+                    self.assertNotIn(node.id, own, path)
+                if isinstance(node, ast.arg):
+                    self.assertNotIn(node.arg, own, path)
+
+    def test_lists_are_made_at_once_and_sorted_anew(self):
+        for path, tree in self.each_tree():
+            for node in ast.walk(tree):
+                self.assertNotIsInstance(node, (ast.GeneratorExp, ast.Global, ast.Lambda, ast.NamedExpr), path)
+                if isinstance(node, ast.Attribute):
+                    self.assertNotIn(node.attr, ("sort", "keys", "format"), path)
+                if isinstance(node, ast.For) or isinstance(node, ast.comprehension):
+                    self.assertNotIsInstance(node.iter, (ast.Set, ast.SetComp), path)
+
+    def test_no_two_files_import_from_each_other(self):
+        needs = {}
+        for path, tree in self.each_tree():
+            name = ".".join(path.relative_to(PACKAGE.parent).with_suffix("").parts)
+            needs[name] = {node.module for node in tree.body if isinstance(node, ast.ImportFrom)}
+        while needs:
+            free = {name for name in needs if not needs[name] & set(needs)}
+            self.assertTrue(free, needs)
+            needs = {name: needs[name] for name in needs if name not in free}
+
+    def test_a_class_with_items_tells_how_it_is_iterated_over(self):
+        for path, tree in self.each_tree():
+            for node in ast.walk(tree):
+                if isinstance(node, ast.ClassDef):
+                    methods = {one.name for one in node.body if isinstance(one, ast.FunctionDef)}
+                    if methods & {"__getitem__", "__len__"}:
+                        self.assertIn("__iter__", methods, path)
+
 
 if __name__ == "__main__":
     unittest.main()

@@ -1,9 +1,8 @@
 """Fractions: as objects of class Ratio, and as pairs (top, bottom)."""
 
-from math import gcd, lcm
-
-from wonbyturns.base.words import LEAST_LONG, MAX_DIGITS, is_chance, is_fraction, is_integer, is_vector
-from wonbyturns.errors import InvalidFraction, InvalidOperation, ParseError, TooMany
+from wonbyturns.base.pairs import lowest, pair_read, place, short, sum_of, text_of
+from wonbyturns.base.words import is_chance, is_fraction, is_integer, is_vector
+from wonbyturns.errors import InvalidFraction, InvalidOperation, ParseError
 
 MAX_POWER = 30
 
@@ -16,7 +15,7 @@ class Ratio:
             raise InvalidFraction("a fraction is made of two integers")
         if bottom == 0:
             raise InvalidFraction("the bottom of a fraction is not 0")
-        self._top, self._bottom = _lowest(top, bottom)
+        self._top, self._bottom = lowest(top, bottom)
 
     @classmethod
     def of(cls, pair):
@@ -28,7 +27,7 @@ class Ratio:
     @classmethod
     def read(cls, text):
         """The fraction with this text."""
-        pair = _pair_read(text)
+        pair = pair_read(text)
         if pair is None:
             raise ParseError(None)
         return cls(pair[0], pair[1])
@@ -51,7 +50,7 @@ class Ratio:
     @property
     def text(self):
         """The text, which has no bottom for an integer."""
-        return _text_of(self.pair)
+        return text_of(self.pair)
 
     @property
     def sign(self):
@@ -129,7 +128,7 @@ class Ratio:
 def added(pairs):
     """The sum of fractions."""
     _check_fractions(pairs)
-    return _short(_sum(pairs))
+    return short(sum_of(pairs))
 
 
 def mean(pairs, chances):
@@ -137,25 +136,25 @@ def mean(pairs, chances):
     _check_fractions(pairs)
     if not _are_chances(chances, len(pairs)):
         raise InvalidFraction("these are not as many chances that sum to 1")
-    return _short(_sum([(one[0] * by[0], one[1] * by[1]) for one, by in zip(pairs, chances)]))
+    return short(sum_of([(one[0] * by[0], one[1] * by[1]) for one, by in zip(pairs, chances)]))
 
 
 def in_order(pairs):
     """The fractions from the least to the greatest one."""
     _check_fractions(pairs)
-    return tuple(sorted(pairs, key=_place))
+    return tuple(sorted(pairs, key=place))
 
 
 def least(pairs):
     """The least one of the fractions."""
     _check_some_fractions(pairs)
-    return min(pairs, key=_place)
+    return min(pairs, key=place)
 
 
 def greatest(pairs):
     """The greatest one of the fractions."""
     _check_some_fractions(pairs)
-    return max(pairs, key=_place)
+    return max(pairs, key=place)
 
 
 def _check_fractions(pairs):
@@ -175,45 +174,13 @@ def _are_chances(value, size):
     """Whether the value is a tuple of so many chances that sum to 1."""
     if not isinstance(value, tuple) or len(value) != size:
         return False
-    return all([is_chance(one) for one in value]) and _sum(value) == (1, 1)
-
-
-def _place(pair):
-    """An integer that is the greater, the greater the fraction is."""
-    # Unequal fractions are more than 1 / LEAST_LONG ** 2 apart, as both bottoms are below
-    # LEAST_LONG; so they are more than 1 apart here, and rounding down keeps their order.
-    return pair[0] * LEAST_LONG * LEAST_LONG // pair[1]
-
-
-def _sum(pairs):
-    """The sum in lowest terms of pairs of integers of any length, with bottoms above 0."""
-    top, bottom = 0, 1
-    for one in pairs:
-        common = lcm(bottom, one[1])
-        top = top * (common // bottom) + one[0] * (common // one[1])
-        bottom = common
-    return _lowest(top, bottom)
-
-
-def _lowest(top, bottom):
-    """The pair in lowest terms with a bottom above 0, of integers of any length."""
-    common = gcd(top, bottom)
-    if bottom < 0:
-        common = -common
-    return top // common, bottom // common
-
-
-def _short(pair):
-    """The pair, unless one of its integers is too long."""
-    if not is_integer(pair[0]) or not is_integer(pair[1]):
-        raise TooMany(MAX_DIGITS)
-    return pair
+    return all([is_chance(one) for one in value]) and sum_of(value) == (1, 1)
 
 
 def _ratio(top, bottom):
     """The Ratio of two integers of any length, the second one not 0."""
     # Only the result may not be too long; the integers that are passed can still cancel.
-    top, bottom = _short(_lowest(top, bottom))
+    top, bottom = short(lowest(top, bottom))
     return Ratio(top, bottom)
 
 
@@ -224,30 +191,6 @@ def _operand(value):
     if not is_integer(value):
         raise InvalidOperation("an operand is a Ratio or an integer")
     return value, 1
-
-
-def _text_of(pair):
-    """The text of a fraction."""
-    top, bottom = pair
-    return str(top) if bottom == 1 else f"{top}/{bottom}"
-
-
-def _pair_read(text):
-    """The fraction with this text, or None if there is none."""
-    if not isinstance(text, str):
-        return None
-    parts = text.split("/")
-    if not all([_are_digits(part.removeprefix("-")) for part in parts]):
-        return None
-    numbers = [int(part) for part in parts] + [1]
-    pair = numbers[0], numbers[1]
-    # Writing it again rules out what only looks alike, such as 03, -0, 3/1 and 1/2/3.
-    return pair if is_fraction(pair) and _text_of(pair) == text else None
-
-
-def _are_digits(text):
-    """Whether the text is made of at least one digit alone, and of no more than an integer has."""
-    return len(text) <= MAX_DIGITS and text.isascii() and text.isdigit()
 
 
 def _simplest(low, high):

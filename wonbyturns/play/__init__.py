@@ -1,0 +1,1 @@
+"""Games that are played by turns: rows, rounds and mixing."""
