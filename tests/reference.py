@@ -151,3 +151,50 @@ def far_mean(house, row, doublings=40):
         table = [[sum(table[one][at] * table[at][to] for at in size) for to in size] for one in size]
         table = [[by / sum(row_of) for by in row_of] for row_of in table]
     return [gain / len(row) for gain in means]
+
+
+def places_behind(house, turns, standing):
+    """The set of the places behind a run of turns."""
+    places = {standing}
+    for name in turns:
+        places = {move[0] for one in places for move in house[name][one]}
+    return places
+
+
+def led_back_by(house, name, vector):
+    """The list of Fractions that comes of leading back a list of Fractions by a game."""
+    return [
+        sum(Fraction(*by) * (gain + vector[to]) for to, gain, by in house[name][standing])
+        for standing in range(house.size)
+    ]
+
+
+def bound_by_definition(house, weights):
+    """The closing bound, by its own words."""
+    vectors = [numbers(vector) for vector in weights]
+    return max(
+        min(max(one - by for one, by in zip(led_back_by(house, name, vector), other)) for other in vectors)
+        for name in house
+        for vector in vectors
+    )
+
+
+def all_rows(house, length):
+    """All rows of a length, in Python's order."""
+    return list(itertools.product(house.names, repeat=length))
+
+
+def greatest_by_trying(house, length):
+    """The greatest total of all rows of a length from all standings."""
+    return max(total_of(house, row, standing) for row in all_rows(house, length) for standing in range(house.size))
+
+
+def integers_in(value):
+    """All integers in a value of tuples, dicts and strings."""
+    if isinstance(value, int):
+        return [value]
+    if isinstance(value, str):
+        return []
+    if isinstance(value, dict):
+        return integers_in(tuple(value.values()))
+    return [one for part in value for one in integers_in(part)]

@@ -25,7 +25,7 @@ def shares_of(step, home):
 
 def home_chances_of(step, homes):
     """For each standing the list of the chances to come into the homes, in lowest terms."""
-    chances, _, _ = step
+    chances = step[0]
     size = range(len(chances))
     away = [one for one in size if not any([one in home for home in homes])]
     found = [[(1, 1) if one in home else (0, 1) for home in homes] for one in size]

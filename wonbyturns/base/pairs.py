@@ -5,6 +5,9 @@ from math import gcd, lcm
 from wonbyturns.base.words import LEAST_LONG, MAX_DIGITS, is_fraction, is_integer
 from wonbyturns.errors import TooMany
 
+# A result of which several are correct has at most 60 digits, wherever there is such a one.
+LEAST_WIDE = 10 ** 60
+
 
 def lowest(top, bottom):
     """The pair in lowest terms with a bottom above 0."""
@@ -29,6 +32,11 @@ def short(pair):
     if not is_integer(pair[0]) or not is_integer(pair[1]):
         raise TooMany(MAX_DIGITS)
     return pair
+
+
+def are_below(pairs, limit):
+    """Whether all integers of the pairs are between the limit and its negative."""
+    return all([abs(top) < limit and bottom < limit for top, bottom in pairs])
 
 
 def place(pair):
@@ -65,6 +73,11 @@ def text_of(pair):
     """The text of a fraction, which has no bottom for an integer."""
     top, bottom = pair
     return str(top) if bottom == 1 else f"{top}/{bottom}"
+
+
+def full_text(pair):
+    """The text of a fraction, always with its bottom."""
+    return f"{pair[0]}/{pair[1]}"
 
 
 def pair_read(text):

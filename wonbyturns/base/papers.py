@@ -1,12 +1,9 @@
 """Papers which show what a chain gains in the long run."""
 
 from wonbyturns.base.chains import balanced, home_chances_of, homes_of, mean_of, values_of
-from wonbyturns.base.pairs import common_bottom, lowest, short, sum_of, top_over
+from wonbyturns.base.pairs import LEAST_WIDE, are_below, common_bottom, lowest, short, sum_of, top_over
 from wonbyturns.base.steps import vector_behind, vector_led_back
 from wonbyturns.base.words import LEAST_LONG, is_vector
-
-# A result of which several are correct has at most 60 digits, wherever there is such a one.
-LEAST_WIDE = 10 ** 60
 
 # How many ways to move the weights are tried.
 MAX_TRIED = 1000
@@ -27,7 +24,7 @@ def paper_of(step):
     homes = homes_of(step)
     values = values_of(step)
     weights = _weights_of(step, values, [home[0] for home in homes])
-    if not _are_below(weights, LEAST_WIDE):
+    if not are_below(weights, LEAST_WIDE):
         weights = _shorter(weights, homes, home_chances_of(step, homes))
     return tuple([short(one) for one in values]), tuple([short(one) for one in weights])
 
@@ -54,7 +51,7 @@ def _shorter(weights, homes, chances):
     moved = [_moved(weights, chances, amounts) for amounts in _choices(weights, homes)]
     for limit in (LEAST_WIDE, LEAST_LONG):
         for one in moved:
-            if _are_below(one, limit):
+            if are_below(one, limit):
                 return one
     return weights
 
@@ -84,8 +81,3 @@ def _centred(weights, amount):
     low = max([-((LEAST_WIDE - 1 + top) // bottom) for top, bottom in moved])
     high = min([(LEAST_WIDE - 1 - top) // bottom for top, bottom in moved])
     return sum_of([amount, ((low + high) // 2, 1)])
-
-
-def _are_below(pairs, limit):
-    """Whether all integers of the pairs are between the limit and its negative."""
-    return all([abs(top) < limit and bottom < limit for top, bottom in pairs])

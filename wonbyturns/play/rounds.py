@@ -35,14 +35,14 @@ def home_chances(house, row, standing):
 def long_runs(house, row):
     """The long runs of a row from all standings."""
     check_row(house, row)
-    return tuple([short(one) for one in _runs_of(house, row)])
+    return tuple([short(one) for one in runs_of(row_step(house, row), len(row))])
 
 
 def long_run(house, row, standing):
     """The long run of a row from a standing."""
     check_row(house, row)
     check_standing(house, standing)
-    return short(_runs_of(house, row)[standing])
+    return short(runs_of(row_step(house, row), len(row))[standing])
 
 
 def run_paper(house, row):
@@ -127,11 +127,11 @@ class Round:
         return f"{' '.join(self._row)} for ever"
 
 
+def runs_of(step, turns):
+    """The long runs of a row of so many turns with this step, in lowest terms."""
+    return [lowest(top, bottom * turns) for top, bottom in values_of(step)]
+
+
 def _is_home(value, among):
     """Whether the value is one of these homes."""
     return isinstance(value, tuple) and all([is_integer(one) for one in value]) and value in among
-
-
-def _runs_of(house, row):
-    """The long runs of a row, in lowest terms."""
-    return [lowest(top, bottom * len(row)) for top, bottom in values_of(row_step(house, row))]
