@@ -221,6 +221,6 @@ def _simplest_above_zero(low, high):
         )
         whole = low_top // low_bottom
     top, bottom = whole + 1, 1
-    for step in reversed(steps):
+    for step in steps[::-1]:
         top, bottom = step * top + bottom, top
     return top, bottom
