@@ -198,3 +198,67 @@ def integers_in(value):
     if isinstance(value, dict):
         return integers_in(tuple(value.values()))
     return [one for part in value for one in integers_in(part)]
+
+
+def solved_by_fractions(matrix, sums):
+    """The list of Fractions that solve equations which have just one solution."""
+    rows = [[Fraction(one) for one in row] + [Fraction(by)] for row, by in zip(matrix, sums)]
+    for at in range(len(rows)):
+        found = next(index for index in range(at, len(rows)) if rows[index][at])
+        rows[at], rows[found] = rows[found], rows[at]
+        rows[at] = [one / rows[at][at] for one in rows[at]]
+        for index, row in enumerate(rows):
+            if index != at:
+                rows[index] = [one - row[at] * by for one, by in zip(row, rows[at])]
+    return [row[-1] for row in rows]
+
+
+def chain_homes(table):
+    """The homes of a chain, as sorted lists."""
+    reached = []
+    for one in range(len(table)):
+        seen, waiting = {one}, [one]
+        while waiting:
+            for to, by in enumerate(table[waiting.pop()]):
+                if by and to not in seen:
+                    seen.add(to)
+                    waiting.append(to)
+        reached.append(seen)
+    return sorted({tuple(sorted(seen)) for seen in reached if all(reached[one] == seen for one in seen)})
+
+
+def chain_runs(table, gains):
+    """The long runs of a chain of Fractions: by the shares of its homes, and by the chances to come there."""
+    homes = chain_homes(table)
+    runs = {}
+    for home in homes:
+        matrix = [[table[one][to] - (one == to) for one in home] for to in home[1:]] + [[1] * len(home)]
+        shares = solved_by_fractions(matrix, [0] * (len(home) - 1) + [1])
+        for one in home:
+            runs[one] = sum(share * gains[at] for share, at in zip(shares, home))
+    away = [one for one in range(len(table)) if one not in runs]
+    matrix = [[(one == to) - table[one][to] for to in away] for one in away]
+    sums = [sum(table[one][to] * runs[to] for to in runs) for one in away]
+    runs.update(zip(away, solved_by_fractions(matrix, sums)))
+    return [runs[one] for one in range(len(table))]
+
+
+def moves_table(lots):
+    """The table of chances and the list of mean gains of lots of moves, one for each standing."""
+    table = [[sum(Fraction(*by) for to, _, by in moves if to == at) for at in range(len(lots))] for moves in lots]
+    return table, [sum(gain * Fraction(*by) for _, gain, by in moves) for moves in lots]
+
+
+def bent(value):
+    """All values in which one fraction of this one is another fraction, greater or less by a third."""
+    if isinstance(value, dict):
+        for key in value:
+            for part in bent(value[key]):
+                yield {**value, key: part}
+    elif isinstance(value, tuple) and len(value) == 2 and all(part.__class__ is int for part in value):
+        yield pair(Fraction(*value) + Fraction(1, 3))
+        yield pair(Fraction(*value) - Fraction(1, 3))
+    elif isinstance(value, tuple):
+        for at, part in enumerate(value):
+            for other in bent(part):
+                yield value[:at] + (other,) + value[at + 1:]

@@ -109,7 +109,7 @@ class Form(unittest.TestCase):
             for node in ast.walk(tree):
                 if isinstance(node, ast.ClassDef):
                     methods = {one.name for one in node.body if isinstance(one, ast.FunctionDef)}
-                    if methods & {"__getitem__", "__len__"}:
+                    if "__getitem__" in methods:
                         self.assertIn("__iter__", methods, path)
 
 

@@ -186,11 +186,6 @@ def check_weights(house, value):
         raise InvalidWeights("this is no set of weights of the house")
 
 
-def ceiling_of(total, length):
-    """The ceiling that comes of the greatest total of a length."""
-    return short(lowest(total[0], total[1] * length))
-
-
 def least_ceiling(house, most):
     """The least ceiling of the lengths up to this one, and the first length that has it."""
     totals = greatest_totals(house, most)

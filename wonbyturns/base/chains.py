@@ -52,14 +52,20 @@ def balanced(step, away, gains):
 def values_of(step):
     """What a step gains in the long run from each standing, in lowest terms."""
     homes = homes_of(step)
+    values = home_values_of(step, homes)
+    if len(homes) == 1:
+        return [values[0] for _ in step[1]]
+    return [mean_of(row, values) for row in home_chances_of(step, homes)]
+
+
+def home_values_of(step, homes):
+    """What a step gains in the long run in each home, in lowest terms."""
     _, gains, bottom = step
     values = []
     for home in homes:
         tops, common = shares_of(step, home)
         values.append(lowest(dot(tops, [gains[one] for one in home]), bottom * common))
-    if len(homes) == 1:
-        return [values[0] for _ in gains]
-    return [mean_of(row, values) for row in home_chances_of(step, homes)]
+    return values
 
 
 def mean_of(chances, values):

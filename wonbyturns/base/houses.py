@@ -27,7 +27,12 @@ def is_game(value):
     """Whether the value is a game."""
     if not isinstance(value, tuple) or not 1 <= len(value) <= MAX_STANDINGS:
         return False
-    return all([_are_moves(moves, MAX_MOVES, len(value)) and _do_ascend(moves) for moves in value])
+    return all([are_moves_of_game(moves, len(value)) for moves in value])
+
+
+def are_moves_of_game(value, size):
+    """Whether the value is a tuple of moves as of a game at one of so many standings."""
+    return _are_moves(value, MAX_MOVES, size) and _do_ascend(value)
 
 
 def merged_moves(moves):

@@ -27,6 +27,16 @@ def sum_of(pairs):
     return lowest(top, bottom)
 
 
+def minus(one, other):
+    """The difference of two fractions, in lowest terms."""
+    return sum_of([one, (-other[0], other[1])])
+
+
+def are_at_most(some, others):
+    """Whether no fraction is above that at the same place of the others."""
+    return all([one[0] * other[1] <= other[0] * one[1] for one, other in zip(some, others)])
+
+
 def short(pair):
     """The pair, unless one of its integers is too long."""
     if not is_integer(pair[0]) or not is_integer(pair[1]):

@@ -23,13 +23,13 @@ def paper_of(step):
     """A pair of values and weights which show what the chain gains, with short weights."""
     homes = homes_of(step)
     values = values_of(step)
-    weights = _weights_of(step, values, [home[0] for home in homes])
+    weights = weights_for(step, values, [home[0] for home in homes])
     if not are_below(weights, LEAST_WIDE):
-        weights = _shorter(weights, homes, home_chances_of(step, homes))
+        weights = shorter_weights(weights, homes, home_chances_of(step, homes))
     return tuple([short(one) for one in values]), tuple([short(one) for one in weights])
 
 
-def _weights_of(step, values, fixed):
+def weights_for(step, values, fixed):
     """The weights for these values which are 0 at one fixed standing of each home."""
     _, gains, bottom = step
     common = common_bottom(values)
@@ -44,11 +44,11 @@ def _weights_of(step, values, fixed):
     return weights
 
 
-def _shorter(weights, homes, chances):
+def shorter_weights(weights, homes, chances):
     """Other weights for the same values, with short numbers if such are found."""
     # All weights for the values come of these by adding one number to each home, and the mean
     # of those numbers to the standings from which the chain comes into the homes.
-    moved = [_moved(weights, chances, amounts) for amounts in _choices(weights, homes)]
+    moved = [moved_weights(weights, chances, amounts) for amounts in _choices(weights, homes)]
     for limit in (LEAST_WIDE, LEAST_LONG):
         for one in moved:
             if are_below(one, limit):
@@ -56,7 +56,7 @@ def _shorter(weights, homes, chances):
     return weights
 
 
-def _moved(weights, chances, amounts):
+def moved_weights(weights, chances, amounts):
     """The weights with an amount for each home added."""
     return [sum_of([weight, mean_of(row, amounts)]) for weight, row in zip(weights, chances)]
 

@@ -121,7 +121,7 @@ class Ratio:
         if self == other:
             raise InvalidOperation("no fraction lies between equal ones")
         low, high = (self, other) if self.is_below(other) else (other, self)
-        top, bottom = _simplest(low.pair, high.pair)
+        top, bottom = simplest(low.pair, high.pair)
         return _ratio(top, bottom)
 
 
@@ -193,7 +193,7 @@ def _operand(value):
     return value, 1
 
 
-def _simplest(low, high):
+def simplest(low, high):
     """The pair between two pairs with the least bottom, and then with the top nearest to 0."""
     if low[0] < 0 < high[0]:
         return 0, 1

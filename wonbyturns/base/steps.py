@@ -13,8 +13,8 @@ def game_step(game):
     """The step of a game."""
     bottom = common_bottom([move[2] for moves in game for move in moves])
     return (
-        [_chances_to(moves, len(game), bottom) for moves in game],
-        [sum([gain * top_over(chance, bottom) for _, gain, chance in moves]) for moves in game],
+        [chances_over(moves, len(game), bottom) for moves in game],
+        [gain_over(moves, bottom) for moves in game],
         bottom,
     )
 
@@ -61,6 +61,11 @@ def vector_led_back(step, vector):
     return tuple([lowest(gain * common + dot(row, tops), bottom * common) for row, gain in zip(chances, gains)])
 
 
-def _chances_to(moves, size, bottom):
-    """The tops of the chances of moves to each standing."""
+def chances_over(moves, size, bottom):
+    """The tops of the chances of moves to each of so many standings."""
     return [sum([top_over(chance, bottom) for to, _, chance in moves if to == standing]) for standing in range(size)]
+
+
+def gain_over(moves, bottom):
+    """The top of the mean gain of moves."""
+    return sum([gain * top_over(chance, bottom) for _, gain, chance in moves])

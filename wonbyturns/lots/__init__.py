@@ -1,0 +1,1 @@
+"""Playing by lot: at each turn a game is drawn by chance."""
