@@ -1,18 +1,32 @@
 """What can be seen of the form of the code: sizes, characters, names and calls."""
 
 import ast
+import builtins
+import io
 import pathlib
+import re
+import tokenize
 import unittest
 import warnings
 
 PACKAGE = pathlib.Path(__file__).resolve().parent.parent / "wonbyturns"
 FILES = sorted(PACKAGE.rglob("*.py"))
 
-BUILTINS = set(
-    "len range enumerate zip min max sum abs sorted reversed int str bool list tuple dict set isinstance ord repr"
-    " any all divmod map iter next property classmethod staticmethod super".split()
-)
+BUILTINS = {name for name in dir(builtins) if not name.startswith("_")}
 DECORATORS = {"property", "classmethod", "staticmethod"}
+CALLED = set(
+    "len range enumerate zip min max sum abs sorted int str bool list tuple dict set isinstance any all iter".split()
+)
+METHODS = set(
+    "append clear copy count endswith extend find get index insert isalnum isalpha isascii isdigit islower isspace"
+    " isupper items join keys ljust lower lstrip partition pop remove removeprefix removesuffix replace reverse rfind"
+    " rjust rpartition rsplit rstrip setdefault split splitlines startswith strip update upper values zfill"
+    " bit_length".split()
+)
+WORDS = set(
+    "type typing typing_extensions enum Enum IntEnum StrEnum Flag IntFlag Generic Protocol ABC ABCMeta namedtuple"
+    " NamedTuple TypedDict TYPE_CHECKING abstractmethod dataclass overload contextmanager".split()
+)
 
 
 class Form(unittest.TestCase):
@@ -62,6 +76,96 @@ class Form(unittest.TestCase):
                     self.assertNotIn(node.id, BUILTINS, path)
                 if isinstance(node, ast.arg):
                     self.assertNotIn(node.arg, BUILTINS, path)
+
+    def test_builtins_that_are_called(self):
+        for path, tree in self.each_tree():
+            for node in ast.walk(tree):
+                if isinstance(node, ast.Call) and isinstance(node.func, ast.Name) and node.func.id in BUILTINS:
+                    self.assertIn(node.func.id, CALLED | {error for error in BUILTINS if error.endswith("Error")}, path)
+                    for keyword in node.keywords:
+                        kept = {("sorted", "key"), ("sorted", "reverse"), ("min", "key"), ("max", "key"),
+                                ("max", "default"), ("min", "default"), ("enumerate", "start")}
+                        self.assertIn((node.func.id, keyword.arg), kept, path)
+                    starred = any(isinstance(one, ast.Starred) for one in node.args)
+                    self.assertTrue(not starred or node.func.id in ("zip", "min", "max"), path)
+
+    def test_methods_and_attributes_are_known(self):
+        own = set()
+        for _, tree in self.each_tree():
+            for node in ast.walk(tree):
+                if isinstance(node, ast.ClassDef):
+                    own |= {one.name for one in node.body if isinstance(one, ast.FunctionDef)}
+                if isinstance(node, ast.Attribute) and isinstance(node.ctx, ast.Store):
+                    own.add(node.attr)
+        for path, tree in self.each_tree():
+            for node in ast.walk(tree):
+                if isinstance(node, ast.Attribute):
+                    self.assertIn(node.attr, own | METHODS, path)
+
+    def test_no_name_is_a_method_and_an_attribute(self):
+        methods, properties, attributes = set(), set(), set()
+        for _, tree in self.each_tree():
+            for node in ast.walk(tree):
+                if isinstance(node, ast.ClassDef):
+                    for one in node.body:
+                        if isinstance(one, ast.FunctionDef):
+                            kinds = [name.id for name in one.decorator_list]
+                            (properties if "property" in kinds else methods).add(one.name)
+                if isinstance(node, ast.Attribute) and isinstance(node.ctx, ast.Store):
+                    attributes.add(node.attr)
+        self.assertEqual((methods & properties, methods & attributes, properties & attributes), (set(),) * 3)
+        self.assertEqual((properties | attributes) & METHODS, set())
+
+    def test_modules_hold_plain_values_functions_and_classes(self):
+        for path, tree in self.each_tree():
+            names = []
+            for node in tree.body:
+                if isinstance(node, (ast.FunctionDef, ast.ClassDef)):
+                    names.append(node.name)
+                elif isinstance(node, ast.ImportFrom):
+                    names.extend(one.name for one in node.names)
+                elif isinstance(node, ast.Assign):
+                    self.assertEqual([one.__class__ for one in node.targets], [ast.Name], path)
+                    names.append(node.targets[0].id)
+                    for one in ast.walk(node.value):
+                        self.assertNotIsInstance(one, (ast.Call, ast.ListComp, ast.DictComp, ast.Attribute), path)
+                        if isinstance(one, ast.Name):
+                            self.assertIn(one.id, names, path)
+                else:
+                    self.assertIsInstance(node, ast.Expr, path)
+                    self.assertIsInstance(node.value.value, str, path)
+            self.assertEqual(sorted(names), sorted(set(names)), path)
+
+    def test_each_import_and_each_helper_is_used(self):
+        for path, tree in self.each_tree():
+            used = {node.id for node in ast.walk(tree) if isinstance(node, ast.Name)}
+            kept = {one.name for node in tree.body if isinstance(node, ast.ImportFrom) for one in node.names}
+            kept |= {node.name for node in tree.body if isinstance(node, ast.FunctionDef) and node.name[0] == "_"}
+            self.assertEqual(kept - used, set(), path)
+
+    def test_methods_with_two_underscores_assign_nothing(self):
+        for path, tree in self.each_tree():
+            for node in ast.walk(tree):
+                if isinstance(node, ast.FunctionDef) and node.name in ("__eq__", "__len__", "__str__", "__contains__"):
+                    for one in ast.walk(node):
+                        self.assertNotIsInstance(one, (ast.Assign, ast.AugAssign, ast.For, ast.While), path)
+
+    def test_words_signs_and_texts(self):
+        for path in FILES:
+            for token in tokenize.generate_tokens(io.StringIO(path.read_text()).readline):
+                documented = token.string.startswith('"""')
+                if token.type in (tokenize.NAME, tokenize.STRING) and not documented:
+                    self.assertEqual(set(re.findall(r"\w+", token.string)) & WORDS, set(), path)
+                if token.type == tokenize.STRING:
+                    self.assertNotIn("%", token.string, path)
+
+    def test_only_none_is_compared_by_is(self):
+        for path, tree in self.each_tree():
+            for node in ast.walk(tree):
+                if isinstance(node, ast.Compare):
+                    for sign, other in zip(node.ops, node.comparators):
+                        if isinstance(sign, (ast.Is, ast.IsNot)):
+                            self.assertTrue(isinstance(other, ast.Constant) and other.value is None, path)
 
     def test_imports_name_the_package_or_a_few_functions(self):
         for path, tree in self.each_tree():

@@ -144,7 +144,7 @@ class Chooser:
 
     def is_best(self):
         """Whether the runs are the best ones."""
-        return self.better() is None
+        return improved(self._house, self._policy) is None
 
     def better(self):
         """A policy whose runs are nowhere less and somewhere greater, or None if there is none."""

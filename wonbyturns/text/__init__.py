@@ -1,0 +1,1 @@
+"""Values as texts, and a shell that is asked by lines."""

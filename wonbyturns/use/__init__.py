@@ -1,0 +1,1 @@
+"""Houses in use: they change under sayings that have to hold."""
