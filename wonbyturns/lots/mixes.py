@@ -8,7 +8,7 @@ from wonbyturns.base.words import MAX_DIGITS, is_chance, is_fraction, is_integer
 from wonbyturns.errors import InvalidFraction, InvalidLot, InvalidOperation, NoRow, TooMany, UnknownGame
 from wonbyturns.lots.polynomials import chain_of, over_power, roots_within, sign_at, times, without_repeats
 from wonbyturns.lots.quotients import lowest_quotient
-from wonbyturns.lots.roots import points_and_stretches
+from wonbyturns.lots.roots import middle_of, points_and_stretches
 from wonbyturns.play.mixing import is_mixing
 
 MAX_DEGREE = 12
@@ -97,8 +97,7 @@ def are_mix_signs(house, first, second, signs):
     # Between neighbouring stretches there is no root, so one point tells the sign there.
     lows = [low for low, _ in stretches] + [(1, 1)]
     highs = [(0, 1)] + [high for _, high in stretches]
-    middles = [lowest(low[0] * high[1] + high[0] * low[1], 2 * low[1] * high[1]) for high, low in zip(highs, lows)]
-    return told == tuple([sign_at(upper, middle) for middle in middles])
+    return told == tuple([sign_at(upper, middle_of(high, low)) for high, low in zip(highs, lows)])
 
 
 def winning_mix(house, first, second):

@@ -1,27 +1,47 @@
-"""The long run by lot of two games, as a quotient of two polynomials."""
+"""The long run by lot of two games, as a quotient of two polynomials.
 
-from wonbyturns.above.totals import common_steps
+Pairs (a, b) stand here for a + b p, with the chance p of the first game.
+"""
+
 from wonbyturns.base.linear import solution
-from wonbyturns.base.steps import dot
+from wonbyturns.base.pairs import common_bottom
+from wonbyturns.base.steps import chances_over, dot, gain_over
 from wonbyturns.lots.polynomials import common_divisor, content, exact_quotient
 
 
 def lowest_quotient(house, first, second):
     """Two polynomials in the chance of the first game without a common divisor; the lower one is above 0."""
-    steps, bottom = common_steps(house)
-    (chances, gains), (others, more) = steps[first], steps[second]
     size = range(house.size)
-    # Coefficients (a, b) of a + b p: the chances that stay behind a turn sum to what comes in.
-    gained = [(by, own - by) for own, by in zip(gains, more)]
+    columns = [_column(house[first][one], house[second][one], house.size) for one in size]
+    bottoms = [bottom for _, _, bottom in columns]
+    gained = [gain for _, gain, _ in columns]
+    # The shares of the standings, each divided by its bottom, are what is solved for: what goes
+    # away from a standing by a turn is what comes to it.
     stays = [
-        [(others[one][to] - (bottom if one == to else 0), chances[one][to] - others[one][to]) for one in size]
+        [
+            (chances[to][0] - (bottom if one == to else 0), chances[to][1])
+            for one, (chances, _, bottom) in enumerate(columns)
+        ]
         for to in size[1:]
     ]
-    bits = _bits_for([[(1, 0) for _ in size]] + stays + [gained])
+    bits = _bits_for([[(bottom, 0) for bottom in bottoms]] + stays + [gained])
     # With so great a p, the determinants of the equations tell all their coefficients at once.
-    tops, lower = solution([[1 for _ in range(house.size + 1)]] + [_at_power(row, bits) + [0] for row in stays])
+    tops, lower = solution([bottoms + [1]] + [_at_power(row, bits) + [0] for row in stays])
     upper = dot(tops, _at_power(gained, bits))
-    return _in_lowest_terms(_numbers_in(upper, bits), tuple([bottom * one for one in _numbers_in(lower, bits)]))
+    return _in_lowest_terms(_numbers_in(upper, bits), _numbers_in(lower, bits))
+
+
+def _column(moves, others, size):
+    """The tops of the chances to come to each standing, and of the mean gain, and their bottom."""
+    bottom = common_bottom([move[2] for move in moves + others])
+    chances, more = chances_over(moves, size, bottom), chances_over(others, size, bottom)
+    gain = _between(gain_over(moves, bottom), gain_over(others, bottom))
+    return [_between(one, other) for one, other in zip(chances, more)], gain, bottom
+
+
+def _between(one, other):
+    """What is the first number for p = 1, and the second one for p = 0."""
+    return other, one - other
 
 
 def _bits_for(rows):

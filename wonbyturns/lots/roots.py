@@ -26,6 +26,11 @@ def points_and_stretches(polynomial):
     return points, stretches
 
 
+def middle_of(low, high):
+    """The fraction in the middle between two."""
+    return lowest(low[0] * high[1] + high[0] * low[1], 2 * low[1] * high[1])
+
+
 def _exact(polynomial, low, high):
     """The root of a narrow stretch twice, if it is a short fraction, or nothing."""
     found = low if low == high else simplest(low, high)
@@ -55,7 +60,7 @@ def _first_stretches(polynomial):
         if many == 1:
             found.append((low, high))
         elif many > 1:
-            middle = _middle(low, high)
+            middle = middle_of(low, high)
             waiting.append((middle, high))
             if sign_at(polynomial, middle) == 0:
                 waiting.append((middle, middle))
@@ -68,7 +73,7 @@ def _narrowed(polynomial, low, high, limit):
     first, last = low, high
     ahead = sign_at(polynomial, low) or sign_at(slope_of(polynomial), low)
     while low != high and (low == first or high == last or _is_wider(low, high, limit)):
-        middle = _middle(low, high)
+        middle = middle_of(low, high)
         sign = sign_at(polynomial, middle)
         if sign == 0:
             return middle, middle
@@ -89,11 +94,6 @@ def _are_apart(stretches):
             if room[0] * own[1] < MANY * own[0] * room[1]:
                 return False
     return True
-
-
-def _middle(low, high):
-    """The fraction in the middle between two."""
-    return lowest(low[0] * high[1] + high[0] * low[1], 2 * low[1] * high[1])
 
 
 def _is_wider(low, high, limit):
