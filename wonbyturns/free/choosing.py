@@ -35,9 +35,9 @@ def picked_step(turn, picks):
 
 def best_chosen(turns):
     """Picks with the greatest long runs from everywhere, and their values and weights."""
-    # If each change is better by what is behind, values first, then weights, and if the weights
-    # have the mean 0 in each home, then the runs of so many turns that nothing else matters grow
-    # with each round of changes. So no picks come twice.
+    # A change that is better by what stands behind, by values first and then by weights with the
+    # mean 0 in each home, makes the gains of all plays greater that are long enough, and none
+    # less. So no picks come twice, and there is an end.
     picks = [[0 for _ in options] for options, _ in turns]
     while True:
         values, weights = _valued(turns, picks)
