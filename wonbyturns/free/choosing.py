@@ -10,6 +10,7 @@ from wonbyturns.base.chains import home_chances_of, homes_of, shares_of, values_
 from wonbyturns.base.pairs import LEAST_WIDE, are_below, common_bottom, minus, lowest, sum_of, tops_over
 from wonbyturns.base.papers import moved_weights, shorter_weights, weights_for
 from wonbyturns.base.steps import chances_over, dot, gain_over, joined, vector_behind, vector_led_back
+from wonbyturns.base.words import LEAST_LONG
 
 # The amounts of homes are rounded to multiples of these parts of 1, to make weights shorter.
 UNITS = (1, 16, 256, 65536)
@@ -52,10 +53,12 @@ def best_paper(turns):
     picks, values, weights = best_chosen(turns)
     steps = [picked_step(turn, own) for turn, own in zip(turns, picks)]
     sums = [(top * len(turns), bottom) for top, bottom in values[0]]
-    for first in _first_weights(_whole(steps), sums, weights[0]):
-        found = raised_weights(turns, values, _weights_by_turns(steps, values, first))
-        if found and are_below([one for vector in found for one in vector], LEAST_WIDE):
-            return picks, values, found
+    firsts = _first_weights(_whole(steps), sums, weights[0])
+    tables = [raised_weights(turns, values, _weights_by_turns(steps, values, first)) for first in firsts]
+    for limit in (LEAST_WIDE, LEAST_LONG):
+        for table in tables:
+            if table and are_below([one for vector in table for one in vector], limit):
+                return picks, values, table
     return picks, values, raised_weights(turns, values, weights)
 
 
