@@ -28,11 +28,64 @@ WORDS = set(
     " NamedTuple TypedDict TYPE_CHECKING abstractmethod dataclass overload contextmanager".split()
 )
 
+VIEWS = {"items", "keys", "values"}
+KEPT = {"range", "zip", "enumerate", "reversed"} | VIEWS
+MEASURED = {"list", "tuple", "sorted", "sum", "min", "max", "any", "all"}
+MORE = {"range": {"len", "enumerate", "reversed", "zip"}, **dict.fromkeys(VIEWS, {"len"})}
+
+
+def kept_kind(node):
+    """The name of the call if this makes a range, a zip or the like, or a view, and None otherwise."""
+    if isinstance(node, ast.Call):
+        if isinstance(node.func, ast.Name) and node.func.id in KEPT - VIEWS:
+            return node.func.id
+        if isinstance(node.func, ast.Attribute) and node.func.attr in VIEWS:
+            return node.func.attr
+    return None
+
+
+def is_kept_well(kind, above, node):
+    """Whether a name that keeps such a thing may stand where it stands; `above` is the node around it."""
+    if isinstance(above, (ast.For, ast.comprehension)):
+        return above.iter is node
+    if isinstance(above, ast.Call) and isinstance(above.func, ast.Name) and node in above.args:
+        return above.func.id in MEASURED | MORE.get(kind, set())
+    if isinstance(above, ast.Compare):
+        tested = isinstance(above.ops[0], (ast.In, ast.NotIn)) and above.comparators == [node]
+        return tested and kind in VIEWS | {"range"}
+    return (
+        kind == "range" and isinstance(above, ast.Subscript) and above.value is node
+        and not isinstance(above.slice, ast.Slice)
+    )
+
+
+def badly_kept(function):
+    """The lines in which a function uses a kept range, zip or view in another way than it may."""
+    around = {below: node for node in ast.walk(function) for below in ast.iter_child_nodes(node)}
+    names = [node for node in ast.walk(function) if isinstance(node, ast.Name)]
+    found = []
+    for node in ast.walk(function):
+        if isinstance(node, ast.Assign) and kept_kind(node.value):
+            kind = kept_kind(node.value)
+            own = [one for one in names if isinstance(node.targets[0], ast.Name) and one.id == node.targets[0].id]
+            reads = [one for one in own if isinstance(one.ctx, ast.Load)]
+            if len(own) != len(reads) + 1 or (kind in KEPT - VIEWS - {"range"} and len(reads) > 1):
+                found.append(node.lineno)
+            found.extend(one.lineno for one in reads if not is_kept_well(kind, around[one], one))
+    return found
+
 
 class Form(unittest.TestCase):
     def each_tree(self):
         """The files with their syntax trees."""
         return [(path, ast.parse(path.read_text())) for path in FILES]
+
+    def each_function(self):
+        """The files with their functions and methods."""
+        return [
+            (path, node) for path, tree in self.each_tree() for node in ast.walk(tree)
+            if isinstance(node, ast.FunctionDef)
+        ]
 
     def test_the_package_holds_files_of_code_alone(self):
         others = [path for path in PACKAGE.rglob("*") if path.is_file() and path.suffix not in (".py", ".pyc")]
@@ -197,6 +250,33 @@ class Form(unittest.TestCase):
                     self.assertNotIn(node.func.id, ("reversed", "map", "next", "print", "chr", "pow"), path)
                 if isinstance(node, ast.For) or isinstance(node, ast.comprehension):
                     self.assertNotIsInstance(node.iter, (ast.Set, ast.SetComp), path)
+
+    def test_kept_ranges_zips_and_views(self):
+        for path, function in self.each_function():
+            self.assertEqual(badly_kept(function), [], f"{path}: {function.name}")
+
+    def test_what_is_kept_badly_is_seen(self):
+        for kept, use, well in [
+            ("range(n)", "[one for one in xs]", True),
+            ("range(n)", "xs[0] + len(xs) + sum(xs)", True),
+            ("range(n)", "list(enumerate(xs)) if n in xs else list(zip(xs, xs))", True),
+            ("range(n)", "[one for one in xs[1:]]", False),
+            ("range(n)", "xs[:n]", False),
+            ("range(n)", "f(xs)", False),
+            ("range(n)", "xs == n", False),
+            ("range(n)", "xs", False),
+            ("n.items()", "sorted(xs) + list(xs)", True),
+            ("n.items()", "xs[0]", False),
+            ("n.values()", "list(zip(xs, n))", False),
+            ("zip(n, n)", "list(xs)", True),
+            ("zip(n, n)", "list(xs) + list(xs)", False),
+            ("enumerate(n)", "xs[1:]", False),
+        ]:
+            function = ast.parse(f"def told(n):\n    xs = {kept}\n    return {use}\n").body[0]
+            with self.subTest(kept=kept, use=use):
+                self.assertEqual(badly_kept(function) == [], well)
+        twice = ast.parse("def told(n):\n    xs = range(n)\n    xs = range(1, n)\n    return list(xs)\n").body[0]
+        self.assertEqual(badly_kept(twice), [2, 3])
 
     def test_no_two_files_import_from_each_other(self):
         needs = {}

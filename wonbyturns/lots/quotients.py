@@ -11,8 +11,8 @@ from wonbyturns.lots.polynomials import common_divisor, content, exact_quotient
 
 def lowest_quotient(house, first, second):
     """Two polynomials in the chance of the first game without a common divisor; the lower one is above 0."""
-    size = range(house.size)
-    columns = [_column(house[first][one], house[second][one], house.size) for one in size]
+    size = house.size
+    columns = [_column(house[first][one], house[second][one], size) for one in range(size)]
     bottoms = [bottom for _, _, bottom in columns]
     gained = [gain for _, gain, _ in columns]
     # The shares of the standings, each divided by its bottom, are what is solved for: what goes
@@ -22,7 +22,7 @@ def lowest_quotient(house, first, second):
             (chances[to][0] - (bottom if one == to else 0), chances[to][1])
             for one, (chances, _, bottom) in enumerate(columns)
         ]
-        for to in size[1:]
+        for to in range(1, size)
     ]
     bits = _bits_for([[(bottom, 0) for bottom in bottoms]] + stays + [gained])
     # With so great a p, the determinants of the equations tell all their coefficients at once.
