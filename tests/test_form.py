@@ -32,6 +32,10 @@ VIEWS = {"items", "keys", "values"}
 KEPT = {"range", "zip", "enumerate", "reversed"} | VIEWS
 MEASURED = {"list", "tuple", "sorted", "sum", "min", "max", "any", "all"}
 MORE = {"range": {"len", "enumerate", "reversed", "zip"}, **dict.fromkeys(VIEWS, {"len"})}
+CHANGING = {
+    "append", "clear", "extend", "insert", "pop", "remove", "reverse", "setdefault", "sort", "update", "add", "discard"
+}
+PUSHING = {"heappush", "heappop", "heapify", "heapreplace", "heappushpop"}
 
 
 def kept_kind(node):
@@ -72,6 +76,69 @@ def badly_kept(function):
             if len(own) != len(reads) + 1 or (kind in KEPT - VIEWS - {"range"} and len(reads) > 1):
                 found.append(node.lineno)
             found.extend(one.lineno for one in reads if not is_kept_well(kind, around[one], one))
+    return found
+
+
+def chosen(node):
+    """The names, attributes and items that an expression can be itself."""
+    if isinstance(node, ast.IfExp):
+        return chosen(node.body) + chosen(node.orelse)
+    if isinstance(node, ast.BoolOp):
+        return [one for value in node.values for one in chosen(value)]
+    sliced = isinstance(node, ast.Subscript) and isinstance(node.slice, ast.Slice)
+    return [ast.unparse(node)] if isinstance(node, (ast.Name, ast.Attribute, ast.Subscript)) and not sliced else []
+
+
+def walked(node):
+    """The names, attributes and items over which a loop with this head goes."""
+    if kept_kind(node) in VIEWS:
+        return chosen(node.func.value)
+    if kept_kind(node):
+        return [one for value in node.args for one in walked(value)]
+    return chosen(node)
+
+
+def changed(node):
+    """The names, attributes and items that a part of the code changes."""
+    if isinstance(node, ast.Call) and isinstance(node.func, ast.Attribute) and node.func.attr in CHANGING:
+        return [ast.unparse(node.func.value)]
+    if isinstance(node, ast.Call) and isinstance(node.func, ast.Name) and node.func.id in PUSHING:
+        return [ast.unparse(node.args[0])]
+    found = [ast.unparse(node.target)] if isinstance(node, ast.AugAssign) else []
+    if isinstance(node, ast.Subscript) and not isinstance(node.ctx, ast.Load):
+        found.append(ast.unparse(node.value))
+    return found
+
+
+def same_names(function):
+    """For each name of a function those that it is assigned, or that are assigned it, one by the other."""
+    lots = {}
+    for node in ast.walk(function):
+        if isinstance(node, ast.Assign):
+            for target in node.targets:
+                both = [(target, node.value)]
+                if isinstance(target, ast.Tuple) and isinstance(node.value, ast.Tuple):
+                    both = list(zip(target.elts, node.value.elts))
+                for one, value in both:
+                    for other in chosen(value):
+                        lot = lots.get(other, {other}) | lots.get(ast.unparse(one), {ast.unparse(one)})
+                        lots.update(dict.fromkeys(lot, lot))
+    return lots
+
+
+def changing_loops(function):
+    """The lines of the loops of a function that change what they walk, read by names."""
+    lots = same_names(function)
+    found = []
+    for loop in ast.walk(function):
+        heads, body = [], []
+        if isinstance(loop, ast.For):
+            heads, body = [loop.iter], loop.body
+        elif isinstance(loop, (ast.ListComp, ast.SetComp, ast.DictComp)):
+            heads, body = [one.iter for one in loop.generators], [loop]
+        names = {name for head in heads for one in walked(head) for name in lots.get(one, {one})}
+        if any(one in names for part in body for node in ast.walk(part) for one in changed(node)):
+            found.append(loop.lineno)
     return found
 
 
@@ -277,6 +344,33 @@ class Form(unittest.TestCase):
                 self.assertEqual(badly_kept(function) == [], well)
         twice = ast.parse("def told(n):\n    xs = range(n)\n    xs = range(1, n)\n    return list(xs)\n").body[0]
         self.assertEqual(badly_kept(twice), [2, 3])
+
+    def test_no_loop_changes_what_it_walks(self):
+        for path, function in self.each_function():
+            self.assertEqual(changing_loops(function), [], f"{path}: {function.name}")
+
+    def test_a_loop_that_changes_what_it_walks_is_seen(self):
+        for head, body, behind, well in [
+            ("xs", "ys.append(one)", "ys = []", True),
+            ("xs", "ys.append(one)", "xs = ys", False),
+            ("list(xs)", "ys.append(one)", "xs = ys", True),
+            ("xs[:]", "ys.append(one)", "xs = ys", True),
+            ("xs", "ys.append(one)", "zs = ys; xs = zs", False),
+            ("xs", "ys.append(one)", "xs, zs = ys, xs", False),
+            ("xs", "ys.append(one)", "xs = ys or []", False),
+            ("enumerate(xs)", "xs.append(one)", "pass", False),
+            ("zip(ys, xs)", "xs[0] = one", "pass", False),
+            ("xs.items()", "del xs[one]", "pass", False),
+            ("xs if ys else zs", "zs.pop()", "pass", False),
+            ("xs[0]", "xs[0].append(one)", "pass", False),
+            ("xs[0]", "xs[1].append(one)", "pass", True),
+            ("xs", "xs += [one]", "pass", False),
+            ("xs", "heappush(xs, one)", "pass", False),
+        ]:
+            loop = f"        for one in {head}:\n            {body}\n        {behind}\n"
+            function = ast.parse("def told(xs, ys, zs):\n    while xs:\n" + loop).body[0]
+            with self.subTest(head=head, body=body, behind=behind):
+                self.assertEqual(changing_loops(function), [] if well else [3])
 
     def test_no_two_files_import_from_each_other(self):
         needs = {}

@@ -80,7 +80,7 @@ def parting_sight(house, one, other):
     waiting = [(0, 0)]
     while waiting:
         behind = []
-        for pair in waiting:
+        for pair in list(waiting):
             (name, rule), (unlike, others) = one[pair[0]], other[pair[1]]
             if name != unlike:
                 return sights[pair]
